@@ -1,0 +1,1 @@
+"""A collection of cylinder seals, and of the pieces of clay that they were rolled over."""
