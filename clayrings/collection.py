@@ -38,3 +38,18 @@ def has_seal(collection, number):
 
 def has_piece(collection, number):
     return number in collection.pieces
+
+
+# The numbers of the pieces that are given to that seal, to any of its ages; rising.
+def given_to(collection, seal_number):
+    found = []
+    for number in sorted(collection.pieces):
+        given = collection.pieces[number].given
+        if given is not None and given[0] == seal_number:
+            found.append(number)
+    return found
+
+
+# The age that a piece which is given to a seal is given to.
+def given_age(piece):
+    return piece.given[1]

@@ -46,6 +46,38 @@ def join(number, other_number, gap):
     return [8, 3, number, other_number, gap, 0]
 
 
+def ages(seal_number, piece_number):
+    return [9, 2, seal_number, piece_number, 0]
+
+
+def which(number):
+    return [10, 1, number, 0]
+
+
+def claim(piece_number, seal_number, age):
+    return [11, 3, piece_number, seal_number, age, 0]
+
+
+def drop(number):
+    return [12, 1, number, 0]
+
+
+def cuts(number):
+    return [13, 1, number, 0]
+
+
+def look(number):
+    return [14, 1, number, 0]
+
+
+def now(number):
+    return [15, 1, number, 0]
+
+
+def rolled(number, age, column, columns, way):
+    return [16, 5, number, age, column, columns, way, 0]
+
+
 def low(*signs):
     """A picture that's one cell high."""
     return [[sign] for sign in signs]

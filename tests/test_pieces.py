@@ -2,9 +2,7 @@
 
 import unittest
 
-from clayrings.collection import Collection
-from clayrings.pieces import add_piece, join_pieces
-from tests.lines import begin, cut, fits, join, last, least, low, piece, rebuilt, run, seal
+from tests.lines import begin, claim, cut, drop, fits, join, last, least, look, low, piece, rebuilt, run, seal
 
 NO_PIECES = [
     [],
@@ -290,25 +288,47 @@ class JoinTest(unittest.TestCase):
 
 
 class GivenPieceTest(unittest.TestCase):
-    """No call gives a piece to a seal yet, so here it's said to the piece itself."""
+    """join of pieces of which one is given to a seal."""
 
-    def collection(self, given, year, picture):
-        collection = Collection(1, 2)
-        add_piece(collection, 7, low(0))
-        add_piece(collection, year, picture)
-        collection.pieces[given].given = [0, 0]
-        return collection
+    def start(self, given, year, picture):
+        return [begin(1, 2), seal(low(0, 1)), piece(7, low(0)), piece(year, picture), claim(given, 0, 0)]
 
     def test_either_one_is_given(self):
         for given in (0, 1):
-            with self.subTest(given=given):
-                self.assertEqual(join_pieces(self.collection(given, 7, low(0)), 0, 1, 0), [-8])
+            for first, second in ((0, 1), (1, 0)):
+                with self.subTest(given=given, first=first):
+                    self.assertEqual(last(*self.start(given, 7, low(0)), join(first, second, 0)), [-8])
 
-    def test_its_place_in_the_order(self):
-        self.assertEqual(join_pieces(self.collection(1, 8, low(0)), 0, 1, -2), [-1])
-        self.assertEqual(join_pieces(self.collection(1, 8, low(0)), 1, 1, 0), [-1])
-        self.assertEqual(join_pieces(self.collection(1, 8, low(0)), 0, 1, 0), [-8])
-        self.assertEqual(join_pieces(self.collection(1, 7, low(1)), 0, 1, -1), [-8])
+    def test_both_are_given(self):
+        self.assertEqual(last(*self.start(0, 7, low(0)), claim(1, 0, 0), join(0, 1, 0)), [-8])
+
+    def test_given_to_an_earlier_age(self):
+        self.assertEqual(last(*self.start(0, 7, low(0)), cut(0, 0, 0, 1), join(0, 1, 0)), [-8])
+
+    def test_no_such_piece_counts_ahead_of_given(self):
+        self.assertEqual(last(*self.start(0, 7, low(0)), join(0, 2, 0)), [-3])
+        self.assertEqual(last(*self.start(0, 7, low(0)), join(2, 0, 0)), [-3])
+
+    def test_a_wrong_place_counts_ahead_of_given(self):
+        start = self.start(1, 7, low(0))
+        self.assertEqual(last(*start, join(0, 1, -2)), [-1])
+        self.assertEqual(last(*start, join(0, 1, 11)), [-1])
+        self.assertEqual(last(*start, join(1, 1, 0)), [-1])
+
+    def test_given_counts_ahead_of_years(self):
+        self.assertEqual(last(*self.start(1, 8, low(0)), join(0, 1, 0)), [-8])
+
+    def test_given_counts_ahead_of_signs(self):
+        self.assertEqual(last(*self.start(1, 7, low(1)), join(0, 1, -1)), [-8])
+
+    def test_nothing_changes(self):
+        told = run(*self.start(1, 7, low(1)), join(0, 1, 0), look(0), look(1), piece(1, low(0)))
+        self.assertEqual(told[5:], [[-8], [7, 1, 0, 0], [7, 1, 1, 0, 0, 1], [2]])
+
+    def test_behind_its_drop(self):
+        told = run(*self.start(1, 7, low(1)), join(0, 1, 0), drop(1), join(0, 1, 0), look(0), claim(0, 0, 0),
+                   look(0))
+        self.assertEqual(told[5:], [[-8], [0, 0], [2], [7, 2, 0, 0, 1], [0, 0], [7, 2, 1, 0, 0, 0, 1]])
 
 
 if __name__ == "__main__":
